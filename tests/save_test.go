@@ -370,7 +370,7 @@ func TestPromise6PowerGone(t *testing.T) {
 	}
 }
 
-// Promise 6: all pairs of small states whose term does not fall. An entry of the new term is never there without that term.
+// Promise 6: each nineteenth pair of small states whose term does not fall, and each sample from nothing on. An entry of the new term is never there without that term.
 func TestPromise6PowerGoneSmall(t *testing.T) {
 	small := smallStates()
 	for i, was := range small {
