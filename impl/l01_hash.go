@@ -205,7 +205,12 @@ func HashBits(h string) (string, int) {
 	}
 	out := make([]byte, 0, 8*HashSize)
 	for i := range 8 * HashSize {
-		out = append(out, '0'+h[i/8]>>(7-i%8)&1)
+		out = append(out, byte('0'+hashBit(h, i)))
 	}
 	return string(out), OK
+}
+
+// hashBit is a bit of a hash, by its number from the highest one of the first byte on.
+func hashBit(h string, at int) int {
+	return int(h[at/8]>>(7-at%8)) & 1
 }
