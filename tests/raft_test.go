@@ -343,7 +343,11 @@ func (m *modelNode) takeAppend(x impl.Message) {
 }
 
 func (m *modelNode) propose(data string) {
-	m.log[len(m.log)+1] = dataEntry(m.n.Term, data)
+	m.add(dataEntry(m.n.Term, data))
+}
+
+func (m *modelNode) add(e impl.Entry) {
+	m.log[len(m.log)+1] = e
 	m.committed()
 	m.tellAll(m.n.Commit)
 }
