@@ -140,6 +140,7 @@ func groupDrawn(t *testing.T, size, acts, seed int, counts map[string]int) {
 			counts["full"]++
 		}
 		checkSafe(t, what, next)
+		checkTheorems(t, what, next)
 		list, codes = append(list, a), append(codes, code)
 		g = next
 	}
@@ -185,6 +186,7 @@ func (s *story) do(a impl.GroupAct) int {
 	var code int
 	s.g, code = checkAct(s.t, "a story", s.g, a)
 	checkSafe(s.t, "a story", s.g)
+	checkTheorems(s.t, "a story", s.g)
 	return code
 }
 
