@@ -386,8 +386,9 @@ func givenLedgers() []namedLedger {
 	return out
 }
 
-func TestPromise1LedgerArguments(t *testing.T) {
-	calls := ledgerCalls()
+// checkLedgersKept hands ledgers whose lists are pieces of longer ones to each call, and asks that nothing of them is changed, and that no answer hangs on what is behind them.
+func checkLedgersKept(t *testing.T, calls map[string]func(impl.Ledger) string) {
+	t.Helper()
 	for _, n := range givenLedgers() {
 		_, was := roomyLedger(n.l)
 		for name, call := range calls {
@@ -401,6 +402,21 @@ func TestPromise1LedgerArguments(t *testing.T) {
 			}
 		}
 	}
+}
+
+// checkEmptyLedgers asks that nil and empty lists are the same to each call.
+func checkEmptyLedgers(t *testing.T, calls map[string]func(impl.Ledger) string) {
+	t.Helper()
+	bare, empty := impl.Ledger{}, impl.Ledger{Leaves: []string{}, Map: impl.Branch{Kids: []impl.Branch{}}, Sessions: []impl.Session{}}
+	for name, call := range calls {
+		if x, y := call(bare), call(empty); x != y {
+			t.Errorf("%s: nil and empty lists are not the same: %.200q, %.200q", name, x, y)
+		}
+	}
+}
+
+func TestPromise1LedgerArguments(t *testing.T) {
+	checkLedgersKept(t, ledgerCalls())
 	form := snapshotForm(sampleLedger(3, 4, 5))
 	for _, b := range [][]byte{nil, form, form[1:], form[:len(form)-1], append(slices.Clone(form), 0), sampleBytes(impl.MaxText + 1)} {
 		checkUnchanged(t, "ReadSnapshot", b, func(b []byte) string { return fmt.Sprint(impl.ReadSnapshot(b)) })
@@ -532,10 +548,5 @@ func TestPromise1LedgerAlike(t *testing.T) {
 		add(fmt.Sprint("ApplyAll of ", size), func() string { return fmt.Sprint(impl.ApplyAll(list)) })
 	}
 	checkAlike(t, calls)
-	bare, empty := impl.Ledger{}, impl.Ledger{Leaves: []string{}, Map: impl.Branch{Kids: []impl.Branch{}}, Sessions: []impl.Session{}}
-	for name, call := range ledgerCalls() {
-		if x, y := call(bare), call(empty); x != y {
-			t.Errorf("%s: nil and empty lists are not the same: %.200q, %.200q", name, x, y)
-		}
-	}
+	checkEmptyLedgers(t, ledgerCalls())
 }
