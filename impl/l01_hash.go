@@ -128,11 +128,16 @@ func HashText(h string) (string, int) {
 	if code := hashFault(h); code != OK {
 		return "", code
 	}
+	return hexText(h), OK
+}
+
+// hexText is the text of what is a hash.
+func hexText(h string) string {
 	out := make([]byte, 0, 2*HashSize)
 	for i := range len(h) {
 		out = append(out, hexDigits[h[i]>>4], hexDigits[h[i]&15])
 	}
-	return string(out), OK
+	return string(out)
 }
 
 // hashFault is the code of a text that was handed in as a hash.
