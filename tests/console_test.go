@@ -54,17 +54,14 @@ func commandIn(words []string) (impl.Command, bool) {
 	return c, session && seq && commandRight(c)
 }
 
-// askIn is what words ask for, if they ask for something.
+// askIn is what words ask for, if they ask for something; the word that they ask with may be any.
 func askIn(words []string) (string, bool) {
 	whole := strings.Join(words, " ")
 	switch {
 	case whole == "root", whole == "size", whole == "list":
 		return whole, true
-	case len(words) == 2 && words[0] == "value":
-		return whole, len(words[1]) <= 24
-	case len(words) == 2 && words[0] == "leaf":
-		_, ok := numberIn(words[1])
-		return whole, ok
+	case len(words) == 2 && (words[0] == "value" || words[0] == "leaf"):
+		return whole, true
 	}
 	return "", false
 }
@@ -94,6 +91,13 @@ func checkReadLine(t *testing.T, why, line string) int {
 	return wantCode
 }
 
+// askedWrongly is of a value that is no key, and of a leaf that is no number.
+func askedWrongly(what string) bool {
+	first, word, _ := strings.Cut(what, " ")
+	_, isNumber := numberIn(word)
+	return first == "value" && len(word) > 24 || first == "leaf" && !isNumber
+}
+
 // saysNothing is of a line without words, or whose first one begins with #.
 func saysNothing(line string) bool {
 	words := wordsIn(line)
@@ -106,7 +110,7 @@ func saidIn(m *modelLedger, line string) string {
 		return ""
 	}
 	c, what, code := lineIn(line)
-	if code != impl.OK {
+	if code != impl.OK || askedWrongly(what) {
 		return "error form\n"
 	}
 	if what == "do" {
@@ -239,11 +243,12 @@ func lineRows() []lineRow {
 		ask("root", "root"), ask("size", "size"), ask("list", "list"), ask(" root ", "root"), ask("   size", "size"), ask("list   ", "list"),
 		ask("value k", "value k"), ask(" value   k ", "value k"), ask("value "+key, "value "+key), ask("value #", "value #"), ask("value value", "value value"), ask("value k\n", "value k\n"), ask("value \n", "value \n"), ask("value 1", "value 1"),
 		ask("leaf 1", "leaf 1"), ask("  leaf  1  ", "leaf 1"), ask("leaf 0", "leaf 0"), ask("leaf -1", "leaf -1"), ask("leaf 50", "leaf 50"), ask("leaf 51", "leaf 51"), ask("leaf 999999999999999999", "leaf 999999999999999999"), ask("leaf -999999999999999999", "leaf -999999999999999999"),
+		ask("value "+key+"k", "value "+key+"k"), ask("  value   "+key+"k ", "value "+key+"k"), ask("value "+value, "value "+value), ask("leaf x", "leaf x"), ask("  leaf   x ", "leaf x"), ask("leaf -", "leaf -"), ask("leaf +1", "leaf +1"), ask("leaf 01", "leaf 01"), ask("leaf -0", "leaf -0"), ask("leaf 1000000000000000000", "leaf 1000000000000000000"), ask("leaf #", "leaf #"), ask("leaf k", "leaf k"), ask("leaf leaf", "leaf leaf"), ask("leaf 1\n", "leaf 1\n"), ask("leaf 1\t", "leaf 1\t"), ask("leaf "+value, "leaf "+value),
 	}
 	for _, line := range []string{
 		"", " ", "  ", "          ", "#", "##", "# ", " #", "#root", "# root", "  # root", "#open 1", "# put 1 2 k v", "\n", " \n ", "\n\n", "#\n", "#\nroot",
 		"root root", "root 1", "root #", "root k", "size size", "size 1", "list list", "list k", "root size", "size list root", "value", "value ", "value k k", "value k #", "leaf", "leaf ", "leaf 1 1", "leaf 1 #",
-		"value " + key + "k", "value " + value, "leaf x", "leaf -", "leaf +1", "leaf 01", "leaf -0", "leaf 1000000000000000000", "leaf #", "leaf k", "leaf 1\n",
+		"value " + key + "k k", "value k " + key + "k", "value " + value + " #", "leaf x x", "leaf x 1", "leaf 1 x", "leaf 01 #", "leafx", "leaf\nx", "valuek", "value\n" + key + "k",
 		"put", "put 1", "put 1 2", "put 1 2 k", "put 1 2 k ", "put 1 2 k v v", "put 1 2 k v #", "add", "add 1", "add 1 2", "add 1 2 k", "add 1 2 k v v", "drop", "drop 1", "drop 1 2", "drop 1 2 k v", "drop 1 2 k #", "open", "open ", "open 1 0", "open 1 1", "open 1 #", "open 1 2 k", "shut", "shut 1 0", "shut 1 1",
 		"put 65536 2 k v", "put 1 65536 k v", "put -1 2 k v", "put 1 -1 k v", "put x 2 k v", "put 1 x k v", "add 65536 2 k v", "add 1 65536 k v", "add -1 2 k v", "add 1 -1 k v", "drop 65536 2 k", "drop 1 65536 k", "drop -1 2 k", "drop 1 -1 k", "open 65536", "open -1", "open x", "open k", "shut 65536", "shut -1", "shut x",
 		"put 1 2 " + key + "k v", "put 1 2 k " + value + "v", "add 1 2 " + key + "k v", "add 1 2 k " + value + "v", "drop 1 2 " + key + "k", "put k 1 2 v", "put k v 1 2", "1 put 2 k v",
@@ -281,7 +286,7 @@ func numberTexts() map[string]bool {
 	}
 }
 
-// Texts at each place where a line has a number: a leaf's may be any, those of commands must be right.
+// Texts at each place where a line has a number: those of commands must be right; a leaf is asked for with any, and told what it is by a console alone.
 func TestReadLineNumbers(t *testing.T) {
 	for text, isNumber := range numberTexts() {
 		n, ok := numberIn(text)
@@ -300,15 +305,59 @@ func TestReadLineNumbers(t *testing.T) {
 				t.Errorf("ReadLine of %.100q is %q, %q, %d", line, fmt.Sprint(got), what, code)
 			}
 		}
-		wantWhat, wantCode := "leaf "+text, impl.OK
-		if !isNumber {
-			wantWhat, wantCode = "", impl.ErrForm
-		}
-		if got, what, code := impl.ReadLine("leaf " + text); got != (impl.Command{}) || what != wantWhat || code != wantCode {
-			t.Errorf("ReadLine of leaf %.100q is %q, %q, %d", text, fmt.Sprint(got), what, code)
-		}
+		wantAsked(t, "leaf", text)
 		if said := map[bool]string{true: "error range\n", false: "error form\n"}[isNumber]; !strings.Contains(text, "\n") {
 			wantSaid(t, "a leaf of an empty log", "leaf "+text, said)
+		}
+	}
+}
+
+// wantAsked asks for what a word is asked with, whatever blanks are about it, and that it is read with no other number of words.
+func wantAsked(t *testing.T, first, word string) {
+	t.Helper()
+	whole := first + " " + word
+	for _, line := range []string{whole, " " + whole, whole + " ", first + "   " + word, "  " + first + "  " + word + "   "} {
+		if got, what, code := impl.ReadLine(line); got != (impl.Command{}) || what != whole || code != impl.OK {
+			t.Errorf("ReadLine of %.100q, %d bytes, is %.100q, %.100q, %d", line, len(line), fmt.Sprint(got), what, code)
+		}
+	}
+	for _, line := range []string{first, first + " ", first + " " + word + " " + word, first + " " + word + " #", first + " 1 " + word, word + " " + whole} {
+		want := impl.ErrForm
+		if len(line) > impl.MaxText {
+			want = impl.ErrLong
+		}
+		if got, what, code := impl.ReadLine(line); got != (impl.Command{}) || what != "" || code != want {
+			t.Errorf("ReadLine of %.100q, %d bytes, is %.100q, %.100q, %d", line, len(line), fmt.Sprint(got), what, code)
+		}
+	}
+}
+
+// Words of every length that a value or a leaf can be asked with: each is told; that it is no key, or no number, a console says.
+func TestReadLineAsked(t *testing.T) {
+	for n := 1; n <= impl.MaxText-40; n += 1 + n/40*7 {
+		for _, word := range []string{strings.Repeat("k", n), strings.Repeat("9", n), wordText(n)} {
+			wantAsked(t, "value", word)
+			wantAsked(t, "leaf", word)
+			said := map[bool]string{true: "error none\n", false: "error form\n"}[n <= impl.MaxKey]
+			wantSaid(t, "a value", "value "+word, said)
+			_, isNumber := numberIn(word)
+			said = map[bool]string{true: "error range\n", false: "error form\n"}[isNumber]
+			wantSaid(t, "a leaf", "leaf "+word, said)
+		}
+	}
+	for text := range numberTexts() {
+		wantAsked(t, "value", text)
+	}
+	for _, first := range []string{"value ", "leaf "} {
+		for _, sign := range []string{"k", "1", "#", "\xff"} {
+			most := first + strings.Repeat(sign, impl.MaxText-len(first))
+			if got, what, code := impl.ReadLine(most); got != (impl.Command{}) || what != most || code != impl.OK {
+				t.Errorf("ReadLine of %d bytes is %.100q, %.100q, %d", len(most), fmt.Sprint(got), what, code)
+			}
+			wantSaid(t, "as long as may be", most, "error form\n")
+			if got, what, code := impl.ReadLine(most + sign); got != (impl.Command{}) || what != "" || code != impl.ErrLong {
+				t.Errorf("ReadLine of %d bytes is %.100q, %.100q, %d", len(most)+1, fmt.Sprint(got), what, code)
+			}
 		}
 	}
 }
@@ -430,7 +479,7 @@ func TestReadLineCounts(t *testing.T) {
 
 // What is too long is that ahead of all else, and nothing else is.
 func TestReadLineLong(t *testing.T) {
-	for _, line := range []string{"root", "open 1", "put 1 2 k v", "value k", "leaf 1", "", "#", "none", "\n"} {
+	for _, line := range []string{"root", "open 1", "put 1 2 k v", "value k", "leaf 1", "leaf x", "value " + strings.Repeat("k", 25), "", "#", "none", "\n"} {
 		pad := strings.Repeat(" ", impl.MaxText-len(line))
 		want, wantWhat, wantCode := lineIn(line)
 		longs := []string{line + pad, pad + line, pad[:len(pad)/2] + line + pad[len(pad)/2:]}

@@ -258,7 +258,7 @@ func TestConsoleLong(t *testing.T) {
 	wantNoConsole(t, "longer, and many", strings.Repeat("\n", impl.MaxText+1), impl.ErrLong)
 }
 
-// Each line of a row says alone what ReadLine tells of it: nothing is done of what it does not read, and all that it reads says something, unless there is nothing to list.
+// Each line of a row says alone what ReadLine tells of it: nothing is done of what it does not read, and all that it reads says something, unless there is nothing to list; of what is asked wrongly that it has no form.
 func TestConsoleReadsLines(t *testing.T) {
 	for _, row := range lineRows() {
 		if strings.Contains(row.line, "\n") {
@@ -269,7 +269,7 @@ func TestConsoleReadsLines(t *testing.T) {
 		switch {
 		case saysNothing(row.line), row.what == "list":
 			want = ""
-		case row.what == "":
+		case row.what == "", askedWrongly(row.what):
 			want = "error form\n"
 		case want == "" || want == "error form\n":
 			t.Errorf("%q says %q", row.line, want)
